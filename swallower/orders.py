@@ -1,0 +1,57 @@
+"""Orders in which the places of a net are looked into, and what they bring to light."""
+
+from swallower.nets import is_net, links_of, places_beside, steps_to_each
+
+NOT_AS_TOLD = -22
+NO_SUCH_HOME = -2
+NOT_BESIDE_A_SAFE_ONE = -33
+
+IN_AND_BACK = 2
+
+
+def tells_all_but_home(n, home, order):
+    """Whether order tells all of n places but home, each once."""
+    return sorted(order) == [place for place in range(n) if place != home]
+
+
+def place_to_look_from(beside_it, steps):
+    """The nearest place of beside_it, of like ones the least, or None if steps leads to none of them."""
+    near_ones = sorted([(steps[place], place) for place in beside_it if place in steps])
+    if len(near_ones) == 0:
+        return None
+    return near_ones[0][1]
+
+
+def steps_till_known(beside_each, home, order):
+    """Of each place of order, behind how many steps it's known, or None if order can't be followed."""
+    safe = [home]
+    here = home
+    behind = 0
+    answer = []
+    for place in order[:-1]:
+        steps = steps_to_each(beside_each, here, safe)
+        spot = place_to_look_from(beside_each[place], steps)
+        if spot is None:
+            return None
+        behind = behind + steps[spot] + IN_AND_BACK
+        answer.append(behind)
+        safe.append(place)
+        here = spot
+    # The last place isn't looked into: once all others are safe, it's the one.
+    if len(order) > 0:
+        answer.append(behind)
+    return answer
+
+
+def known(n, home, net, order):
+    """How many places order tells, then of each behind how many steps it's known; or a refusal alone."""
+    if not is_net(n, net):
+        return [NOT_AS_TOLD]
+    if home >= n:
+        return [NO_SUCH_HOME]
+    if not tells_all_but_home(n, home, order):
+        return [NOT_AS_TOLD]
+    answer = steps_till_known(places_beside(n, links_of(net)), home, order)
+    if answer is None:
+        return [NOT_BESIDE_A_SAFE_ONE]
+    return [len(order)] + answer
