@@ -5,8 +5,27 @@ from swallower.nets import is_net, links_of, places_beside, steps_to_each
 NOT_AS_TOLD = -22
 NO_SUCH_HOME = -2
 NOT_BESIDE_A_SAFE_ONE = -33
+TOO_MANY_TO_CHOOSE_FROM = -75
 
 IN_AND_BACK = 2
+MOST_TO_CHOOSE_FROM = 6
+
+
+def refusal_of(n, home, net):
+    """The refusal that a net or home that isn't one calls for, or None."""
+    if not is_net(n, net):
+        return NOT_AS_TOLD
+    if home >= n:
+        return NO_SUCH_HOME
+    return None
+
+
+def refusal_to_choose(n, home, net):
+    """The refusal that's due where an order is to be chosen, or None."""
+    refusal = refusal_of(n, home, net)
+    if refusal is None and n > MOST_TO_CHOOSE_FROM:
+        return TOO_MANY_TO_CHOOSE_FROM
+    return refusal
 
 
 def tells_all_but_home(n, home, order):
@@ -43,15 +62,52 @@ def steps_till_known(beside_each, home, order):
     return answer
 
 
+def one_place_longer(n, home, orders):
+    """Each of orders with one more of n places behind it, in every way that tells none twice, and not home."""
+    longer = []
+    for order in orders:
+        for place in range(n):
+            if place != home and place not in order:
+                longer.append(order + [place])
+    return longer
+
+
+def all_orders(n, home):
+    """Every order of n places with this home."""
+    orders = [[]]
+    while len(orders[0]) < n - 1:
+        orders = one_place_longer(n, home, orders)
+    return orders
+
+
+def ways_to_look(n, home, net):
+    """Each order that can be followed, and beside it behind how many steps each place of it is known."""
+    beside_each = places_beside(n, links_of(net))
+    ways = []
+    for order in all_orders(n, home):
+        behind = steps_till_known(beside_each, home, order)
+        if behind is not None:
+            ways.append((order, behind))
+    return ways
+
+
 def known(n, home, net, order):
     """How many places order tells, then of each behind how many steps it's known; or a refusal alone."""
-    if not is_net(n, net):
-        return [NOT_AS_TOLD]
-    if home >= n:
-        return [NO_SUCH_HOME]
+    refusal = refusal_of(n, home, net)
+    if refusal is not None:
+        return [refusal]
     if not tells_all_but_home(n, home, order):
         return [NOT_AS_TOLD]
     answer = steps_till_known(places_beside(n, links_of(net)), home, order)
     if answer is None:
         return [NOT_BESIDE_A_SAFE_ONE]
     return [len(order)] + answer
+
+
+def soonest(n, home, net):
+    """Behind how many steps it's known at worst by the best order, then that order; or a refusal alone."""
+    refusal = refusal_to_choose(n, home, net)
+    if refusal is not None:
+        return [refusal]
+    # The least list has the fewest steps, and of like orders the first: lists compare number by number.
+    return min([[max(way[1], default=0)] + way[0] for way in ways_to_look(n, home, net)])

@@ -1,0 +1,94 @@
+"""What several tests need: a second reckoning of known, nets and orders to try, and lists that stay as they are."""
+
+import itertools
+
+LARGEST = 4294967295
+LARGE_NETS = [
+    (6, [0, 1, 1, 2, 2, 3, 3, 4, 4, 5, 5, 0]),
+    (6, [0, 1, 1, 2, 2, 3, 3, 0, 1, 4, 3, 5]),
+    (6, [5, 0, 5, 1, 0, 2, 1, 2, 2, 3, 3, 4, 4, 5, 1, 3, 0, 4, 2, 5]),
+    (7, [0, 1, 1, 2, 2, 3, 3, 4, 0, 5, 5, 3, 0, 6]),
+    (7, [0, 1, 1, 2, 2, 3, 3, 4, 4, 5, 5, 6, 6, 0, 0, 3, 2, 5, 1, 6]),
+]
+
+
+def pairs(net):
+    return [frozenset(net[k:k + 2]) for k in range(0, len(net), 2)]
+
+
+def how_far(links, start, goal, within):
+    """How many steps from start to goal through places of within; None if there's no way."""
+    reached = {start}
+    for steps in range(8):
+        if goal in reached:
+            return steps
+        reached = {p for p in within if p in reached or any({p, q} in links for q in reached)}
+    return None
+
+
+def hangs_together(n, links):
+    return all(how_far(links, 0, place, range(n)) is not None for place in range(n))
+
+
+def is_told_net(n, net):
+    links = pairs(net)
+    return (1 <= n <= 7 and len(net) % 2 == 0 and len(links) <= 10 and len(set(links)) == len(links)
+            and all(len(link) == 2 for link in links) and all(place < n for place in net)
+            and hangs_together(n, links))
+
+
+def looks(net, home, order):
+    """Of each place of order but the last: how far they go, and where they look from; None for -33."""
+    links = pairs(net)
+    here = home
+    told = []
+    for count, place in enumerate(order[:-1]):
+        safe = {home, *order[:count]}
+        near = [(how_far(links, here, spot, safe), spot) for spot in safe if {spot, place} in links]
+        if not near:
+            return None
+        told.append(min(near))
+        here = told[-1][1]
+    return told
+
+
+def expected(net, home, order):
+    told = looks(net, home, order)
+    if told is None:
+        return [-33]
+    behind = list(itertools.accumulate([far + 2 for far, spot in told]))
+    return [len(order)] + (behind + (behind[-1:] or [0]) if order else [])
+
+
+def orders_of(n, home):
+    return [list(order) for order in itertools.permutations([place for place in range(n) if place != home])]
+
+
+def nets_of(n):
+    """Every net of n places."""
+    links = list(itertools.combinations(range(n), 2))
+    for many in range(n - 1, min(len(links), 10) + 1):
+        for chosen in itertools.combinations(links, many):
+            net = [place for link in chosen for place in link]
+            if is_told_net(n, net):
+                yield net
+
+
+def small_nets_with_homes():
+    """Every net of up to four places with every home, and every net of five with home 2: n, home, net."""
+    for n in range(1, 5):
+        for net in nets_of(n):
+            for home in range(n):
+                yield n, home, net
+    for net in nets_of(5):
+        yield 5, 2, net
+
+
+class Unchanging(list):
+    """A list that fails the test as soon as something changes it, be it for a while."""
+
+    def refuse(self, *arguments, **keywords):
+        raise AssertionError("what is handed in was changed")
+
+    append = extend = insert = pop = remove = clear = sort = reverse = refuse
+    __setitem__ = __delitem__ = __iadd__ = __imul__ = refuse

@@ -1,0 +1,57 @@
+"""No order is better than the one that is answered, and of like ones it is the first (what holds, a)."""
+
+import unittest
+
+from swallower.orders import known, soonest
+from tests.helper import LARGE_NETS, expected, orders_of, small_nets_with_homes
+
+NETS_OF_SIX = [net for n, net in LARGE_NETS if n == 6] + [
+    [0, 1, 1, 2, 2, 3, 3, 4, 4, 5],
+    [5, 0, 5, 1, 5, 2, 5, 3, 5, 4],
+    [0, 3, 1, 3, 1, 4, 2, 4, 3, 5],
+    [0, 1, 0, 2, 0, 3, 1, 4, 1, 5],
+    [0, 3, 0, 4, 1, 2, 2, 3, 2, 4, 4, 5],
+    [0, 1, 1, 2, 2, 3, 3, 4, 0, 5, 5, 3],
+    [0, 1, 1, 2, 2, 0, 3, 4, 4, 5, 5, 3, 0, 3],
+    [0, 3, 0, 4, 0, 5, 1, 3, 1, 4, 1, 5, 2, 3, 2, 4, 2, 5],
+]
+
+
+def at_worst(behind):
+    return max(behind, default=0)
+
+
+def reckoned(n, home, net):
+    """Each order that can be followed, with the steps behind which its places are known."""
+    told = [(order, expected(net, home, order)) for order in orders_of(n, home)]
+    return [(order, answer[1:]) for order, answer in told if answer != [-33]]
+
+
+class NoOrderIsBetter(unittest.TestCase):
+    def check(self, n, home, net):
+        with self.subTest(n=n, home=home, net=net):
+            ways = reckoned(n, home, net)
+            self.check_answer(soonest(n, home, net), ways, at_worst)
+            self.check_against_known(soonest(n, home, net), n, home, net, at_worst)
+
+    def check_answer(self, answer, ways, steps_of):
+        self.assertEqual(answer[0], min(steps_of(behind) for order, behind in ways))
+        self.assertEqual(answer[1:], min(order for order, behind in ways if steps_of(behind) == answer[0]))
+
+    def check_against_known(self, answer, n, home, net, steps_of):
+        told = known(n, home, net, answer[1:])
+        self.assertEqual(told[0], n - 1)
+        self.assertEqual(steps_of(told[1:]), answer[0])
+
+    def test_small_nets(self):
+        for n, home, net in small_nets_with_homes():
+            self.check(n, home, net)
+
+    def test_some_nets_of_six_places_from_every_home(self):
+        for net in NETS_OF_SIX:
+            for home in range(6):
+                self.check(6, home, net)
+
+
+if __name__ == "__main__":
+    unittest.main()

@@ -1,0 +1,149 @@
+"""What soonest answers where nothing is refused (promise 3, its first sentence)."""
+
+import unittest
+
+from swallower.orders import known, soonest
+
+LINE_OF_3 = [0, 1, 1, 2]
+LINE_OF_4 = [0, 1, 1, 2, 2, 3]
+LINE_OF_5 = [0, 1, 1, 2, 2, 3, 3, 4]
+LINE_OF_6 = [0, 1, 1, 2, 2, 3, 3, 4, 4, 5]
+STAR_OF_4_ROUND_3 = [0, 3, 1, 3, 2, 3]
+STAR_OF_5 = [0, 1, 0, 2, 0, 3, 0, 4]
+STAR_OF_6 = [0, 1, 0, 2, 0, 3, 0, 4, 0, 5]
+ALL_LINKS_OF_3 = [0, 1, 1, 2, 2, 0]
+ALL_LINKS_OF_4 = [0, 1, 0, 2, 0, 3, 1, 2, 1, 3, 2, 3]
+ALL_LINKS_OF_5 = [0, 1, 0, 2, 0, 3, 0, 4, 1, 2, 1, 3, 1, 4, 2, 3, 2, 4, 3, 4]
+
+
+class Answers(unittest.TestCase):
+    def check(self, n, home, net, answer):
+        self.assertEqual(soonest(n, home, net), answer)
+        behind = known(n, home, net, answer[1:])
+        self.assertEqual(behind[0], n - 1)
+        self.assertEqual(max(behind[1:], default=0), answer[0])
+
+
+class OneAndTwoPlaces(Answers):
+    def test_one_place_leaves_no_order(self):
+        self.check(1, 0, [], [0])
+
+    def test_of_two_places_the_other_is_known_at_once(self):
+        self.check(2, 0, [0, 1], [0, 1])
+        self.check(2, 1, [0, 1], [0, 0])
+        self.check(2, 1, [1, 0], [0, 0])
+
+
+class Lines(Answers):
+    def test_home_at_an_end(self):
+        # There's one order alone; its last place is beside none but the one ahead of it.
+        self.check(3, 0, LINE_OF_3, [2, 1, 2])
+        self.check(3, 2, LINE_OF_3, [2, 1, 0])
+        self.check(4, 0, LINE_OF_4, [5, 1, 2, 3])
+        self.check(5, 0, LINE_OF_5, [8, 1, 2, 3, 4])
+        self.check(6, 0, LINE_OF_6, [11, 1, 2, 3, 4, 5])
+        self.check(6, 5, LINE_OF_6, [11, 4, 3, 2, 1, 0])
+
+    def test_home_in_the_midst(self):
+        self.check(3, 1, LINE_OF_3, [2, 0, 2])
+        self.check(4, 1, LINE_OF_4, [4, 0, 2, 3])
+        self.check(4, 2, LINE_OF_4, [4, 1, 3, 0])
+        self.check(5, 1, LINE_OF_5, [7, 0, 2, 3, 4])
+        self.check(5, 2, LINE_OF_5, [7, 1, 3, 0, 4])
+        self.check(5, 3, LINE_OF_5, [7, 2, 4, 1, 0])
+
+    def test_the_nearest_place_next_is_not_always_best(self):
+        # 1, 3 and 0 are the nearest of home 2, but 4 and 5 behind them take 11 steps or more.
+        self.check(6, 2, LINE_OF_6, [10, 1, 3, 4, 5, 0])
+        self.check(6, 3, LINE_OF_6, [10, 2, 4, 1, 0, 5])
+
+
+class Rings(Answers):
+    def test_four_places(self):
+        ring = [0, 1, 1, 2, 2, 3, 3, 0]
+        self.check(4, 0, ring, [4, 1, 3, 2])
+        self.check(4, 2, ring, [4, 1, 3, 0])
+
+    def test_five_places(self):
+        ring = [0, 1, 1, 2, 2, 3, 3, 4, 4, 0]
+        self.check(5, 0, ring, [7, 1, 4, 2, 3])
+        self.check(5, 3, ring, [7, 2, 4, 0, 1])
+
+    def test_six_places(self):
+        ring = [0, 1, 1, 2, 2, 3, 3, 4, 4, 5, 5, 0]
+        self.check(6, 0, ring, [10, 1, 5, 2, 3, 4])
+        self.check(6, 4, ring, [10, 3, 5, 0, 1, 2])
+
+
+class LikeOrders(Answers):
+    def test_a_star_from_its_midst(self):
+        self.check(4, 3, STAR_OF_4_ROUND_3, [4, 0, 1, 2])
+        self.check(5, 0, STAR_OF_5, [6, 1, 2, 3, 4])
+        self.check(6, 0, STAR_OF_6, [8, 1, 2, 3, 4, 5])
+
+    def test_a_star_from_one_of_its_ends(self):
+        self.check(5, 1, STAR_OF_5, [7, 0, 2, 3, 4])
+        self.check(6, 5, STAR_OF_6, [9, 0, 1, 2, 3, 4])
+
+    def test_each_place_beside_each_other(self):
+        self.check(3, 0, ALL_LINKS_OF_3, [2, 1, 2])
+        self.check(3, 1, ALL_LINKS_OF_3, [2, 0, 2])
+        self.check(4, 0, ALL_LINKS_OF_4, [4, 1, 2, 3])
+        self.check(4, 2, ALL_LINKS_OF_4, [4, 0, 1, 3])
+        self.check(5, 3, ALL_LINKS_OF_5, [6, 0, 1, 2, 4])
+
+    def test_home_beside_each_of_five_others(self):
+        self.check(6, 0, ALL_LINKS_OF_5[:-2] + [0, 5], [8, 1, 2, 3, 4, 5])
+
+    def test_however_the_links_are_told(self):
+        self.check(4, 3, [2, 3, 3, 1, 0, 3], [4, 0, 1, 2])
+        self.check(5, 2, [4, 3, 1, 0, 3, 2, 2, 1], [7, 1, 3, 0, 4])
+        self.check(6, 0, [0, 5, 4, 5, 4, 3, 2, 3, 1, 2, 1, 0], [10, 1, 5, 2, 3, 4])
+
+    def test_a_later_order_that_is_sooner_comes_ahead_of_the_first(self):
+        # 3, 1, 4 can be followed too, but takes 11 steps.
+        self.check(6, 0, [0, 3, 1, 3, 1, 4, 2, 4, 3, 5], [10, 3, 1, 5, 4, 2])
+
+
+class WaysThroughSafePlaces(Answers):
+    def test_a_place_that_is_only_beside_the_one_that_swallows(self):
+        # 3 is beside 2 alone.
+        self.check(4, 0, [0, 1, 0, 2, 1, 2, 2, 3], [4, 1, 2, 3])
+        # 1 is beside 3 alone.
+        self.check(4, 0, [0, 2, 0, 3, 3, 1], [4, 2, 3, 1])
+
+    def test_not_through_one_that_is_not_safe_yet(self):
+        # Through 3, were it safe, 1 and 2 would be known behind 5 steps too, and 1, 2, 3 be the first order.
+        self.check(4, 0, STAR_OF_4_ROUND_3, [5, 3, 1, 2])
+        # Through 1, were it safe: 0, 1, 2, 3.
+        self.check(5, 4, [0, 1, 0, 2, 0, 3, 1, 4], [8, 1, 0, 2, 3])
+
+    def test_not_by_a_way_that_a_later_place_makes_shorter(self):
+        # 0 and 3 are two steps apart through 5, and three through 1 and 2.
+        self.check(6, 0, [0, 1, 1, 2, 2, 3, 3, 4, 0, 5, 5, 3], [10, 1, 5, 2, 3, 4])
+
+    def test_they_look_from_the_nearest_even_if_another_is_less(self):
+        # 1 is beside 0 too, but they stand at 2.
+        self.check(4, 2, [0, 1, 0, 2, 0, 3, 1, 2], [4, 0, 1, 3])
+
+    def test_they_look_from_the_least_of_equally_near_ones(self):
+        # 2 is beside 3 and 4: looked into ahead of 5, it is so from 3, and 5 is then two steps further off.
+        self.check(6, 0, [0, 3, 0, 4, 1, 2, 2, 3, 2, 4, 4, 5], [9, 3, 4, 5, 2, 1])
+        self.check(6, 0, [0, 1, 1, 2, 2, 3, 3, 0, 1, 4, 3, 5], [9, 1, 3, 2, 4, 5])
+
+
+class TheLastPlace(Answers):
+    def test_it_takes_no_steps_however_far_it_is(self):
+        # As they look into 5 from 4, it's three steps to 1, on which 0 hangs.
+        self.check(6, 2, LINE_OF_6, [10, 1, 3, 4, 5, 0])
+        # As they look into 5 from 3, it's two steps to 1, on which 2 hangs.
+        self.check(6, 0, [0, 1, 1, 2, 0, 3, 3, 4, 3, 5], [9, 1, 3, 4, 5, 2])
+
+    def test_it_need_not_be_beside_any_but_the_one_ahead_of_it(self):
+        self.check(3, 0, [0, 2, 2, 1], [2, 2, 1])
+        self.check(5, 4, [4, 3, 3, 2, 2, 1, 1, 0], [8, 3, 2, 1, 0])
+        self.check(5, 0, [0, 1, 0, 2, 1, 2, 2, 3, 3, 4], [7, 1, 2, 3, 4])
+
+
+if __name__ == "__main__":
+    unittest.main()
