@@ -91,6 +91,12 @@ def ways_to_look(n, home, net):
     return ways
 
 
+def best_answer(answers):
+    """Of answers that each tell steps and then an order, that of the fewest steps, of like orders the first."""
+    # Lists compare number by number: by the steps first, then by the place where two orders first differ.
+    return min(answers)
+
+
 def known(n, home, net, order):
     """How many places order tells, then of each behind how many steps it's known; or a refusal alone."""
     refusal = refusal_of(n, home, net)
@@ -109,5 +115,12 @@ def soonest(n, home, net):
     refusal = refusal_to_choose(n, home, net)
     if refusal is not None:
         return [refusal]
-    # The least list has the fewest steps, and of like orders the first: lists compare number by number.
-    return min([[max(way[1], default=0)] + way[0] for way in ways_to_look(n, home, net)])
+    return best_answer([[max(way[1], default=0)] + way[0] for way in ways_to_look(n, home, net)])
+
+
+def mean(n, home, net):
+    """How many steps there are all together by the best order, then that order; or a refusal alone."""
+    refusal = refusal_to_choose(n, home, net)
+    if refusal is not None:
+        return [refusal]
+    return best_answer([[sum(way[1])] + way[0] for way in ways_to_look(n, home, net)])

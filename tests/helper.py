@@ -1,8 +1,25 @@
-"""What several tests need: a second reckoning of known, nets and orders to try, and lists that stay as they are."""
+"""What several tests need: nets and orders to try, a second reckoning of known, and unchanging lists."""
 
 import itertools
 
 LARGEST = 4294967295
+LINE_OF_3 = [0, 1, 1, 2]
+LINE_OF_4 = LINE_OF_3 + [2, 3]
+LINE_OF_5 = LINE_OF_4 + [3, 4]
+LINE_OF_6 = LINE_OF_5 + [4, 5]
+LINE_OF_7 = LINE_OF_6 + [5, 6]
+LINE_OF_8 = LINE_OF_7 + [6, 7]
+RING_OF_4 = LINE_OF_4 + [3, 0]
+RING_OF_5 = LINE_OF_5 + [4, 0]
+RING_OF_6 = LINE_OF_6 + [5, 0]
+RING_OF_7 = LINE_OF_7 + [6, 0]
+STAR_OF_4_ROUND_3 = [0, 3, 1, 3, 2, 3]
+STAR_OF_5 = [0, 1, 0, 2, 0, 3, 0, 4]
+STAR_OF_6 = STAR_OF_5 + [0, 5]
+ALL_LINKS_OF_3 = [0, 1, 1, 2, 2, 0]
+ALL_LINKS_OF_4 = [0, 1, 0, 2, 0, 3, 1, 2, 1, 3, 2, 3]
+# Ten links, as many as a net may have.
+ALL_LINKS_OF_5 = [0, 1, 0, 2, 0, 3, 0, 4, 1, 2, 1, 3, 1, 4, 2, 3, 2, 4, 3, 4]
 LARGE_NETS = [
     (6, [0, 1, 1, 2, 2, 3, 3, 4, 4, 5, 5, 0]),
     (6, [0, 1, 1, 2, 2, 3, 3, 0, 1, 4, 3, 5]),

@@ -2,7 +2,7 @@
 
 import unittest
 
-from swallower.orders import known, soonest
+from swallower.orders import known, mean, soonest
 from tests.helper import LARGEST, Unchanging
 
 ORDERED = [
@@ -28,7 +28,8 @@ TO_CHOOSE = [
     (4, 0, [2, 3, 1, 2, 0, 1, 1]),
     (LARGEST, LARGEST, [LARGEST] * 24),
 ]
-CASES = [(known, values) for values in ORDERED] + [(soonest, values) for values in TO_CHOOSE]
+CASES = ([(known, values) for values in ORDERED] + [(soonest, values) for values in TO_CHOOSE]
+         + [(mean, values) for values in TO_CHOOSE])
 
 
 def copied(values, kind):
@@ -50,6 +51,7 @@ class Arguments(unittest.TestCase):
     def test_arguments_by_name(self):
         self.assertEqual(known(n=3, home=0, net=[0, 1, 1, 2], order=[1, 2]), [2, 2, 2])
         self.assertEqual(soonest(n=3, home=0, net=[0, 1, 1, 2]), [2, 1, 2])
+        self.assertEqual(mean(n=3, home=0, net=[0, 1, 1, 2]), [4, 1, 2])
 
 
 class Answers(unittest.TestCase):

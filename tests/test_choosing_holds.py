@@ -2,7 +2,7 @@
 
 import unittest
 
-from swallower.orders import known, soonest
+from swallower.orders import known, mean, soonest
 from tests.helper import LARGE_NETS, expected, orders_of, small_nets_with_homes
 
 NETS_OF_SIX = [net for n, net in LARGE_NETS if n == 6] + [
@@ -31,8 +31,10 @@ class NoOrderIsBetter(unittest.TestCase):
     def check(self, n, home, net):
         with self.subTest(n=n, home=home, net=net):
             ways = reckoned(n, home, net)
-            self.check_answer(soonest(n, home, net), ways, at_worst)
-            self.check_against_known(soonest(n, home, net), n, home, net, at_worst)
+            for call, steps_of in ((soonest, at_worst), (mean, sum)):
+                answer = call(n, home, net)
+                self.check_answer(answer, ways, steps_of)
+                self.check_against_known(answer, n, home, net, steps_of)
 
     def check_answer(self, answer, ways, steps_of):
         self.assertEqual(answer[0], min(steps_of(behind) for order, behind in ways))

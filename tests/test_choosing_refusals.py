@@ -2,16 +2,10 @@
 
 import unittest
 
-from swallower.orders import soonest
-from tests.helper import LARGEST
+from swallower.orders import mean, soonest
+from tests.helper import ALL_LINKS_OF_5, LARGEST, LINE_OF_4, LINE_OF_6, LINE_OF_7, LINE_OF_8
 
-CALLS = (soonest,)
-LINE_OF_4 = [0, 1, 1, 2, 2, 3]
-LINE_OF_6 = [0, 1, 1, 2, 2, 3, 3, 4, 4, 5]
-LINE_OF_7 = LINE_OF_6 + [5, 6]
-LINE_OF_8 = LINE_OF_7 + [6, 7]
-# All that five places can have.
-TEN_LINKS = [0, 1, 0, 2, 0, 3, 0, 4, 1, 2, 1, 3, 1, 4, 2, 3, 2, 4, 3, 4]
+CALLS = (soonest, mean)
 
 
 class Refusals(unittest.TestCase):
@@ -42,7 +36,7 @@ class HowManyPlaces(Refusals):
         self.check(-75, 7, 3, LINE_OF_7)
         self.check(-75, 7, 6, LINE_OF_7)
         self.check(-75, 7, 1, [0, 6, 1, 6, 2, 6, 3, 6, 4, 6, 5, 6])
-        self.check(-75, 7, 0, TEN_LINKS[:-4] + [0, 5, 0, 6])
+        self.check(-75, 7, 0, ALL_LINKS_OF_5[:-4] + [0, 5, 0, 6])
 
     def test_more_than_seven(self):
         self.check(-22, 8, 0, LINE_OF_8)
@@ -90,9 +84,9 @@ class Links(Refusals):
         self.check(-22, 4, 0, LINE_OF_4 + [0, LARGEST, LARGEST, 0])
 
     def test_more_than_ten(self):
-        self.check_taken(6, 0, TEN_LINKS[:-2] + [0, 5])
-        self.check(-22, 6, 0, TEN_LINKS + [0, 5])
-        self.check(-22, 6, 0, TEN_LINKS + [0, 5, 5, 1])
+        self.check_taken(6, 0, ALL_LINKS_OF_5[:-2] + [0, 5])
+        self.check(-22, 6, 0, ALL_LINKS_OF_5 + [0, 5])
+        self.check(-22, 6, 0, ALL_LINKS_OF_5 + [0, 5, 5, 1])
         self.check(-22, 4, 0, [LARGEST] * 22)
         self.check(-22, 4, 0, LINE_OF_4 + [LARGEST] * 18)
 
@@ -144,7 +138,7 @@ class WhichIsAnsweredFirst(Refusals):
         self.check(-22, 7, 0, LINE_OF_7 + [6, 6])
         self.check(-22, 7, 0, LINE_OF_7 + [0, 1])
         self.check(-22, 7, 0, LINE_OF_7 + [1, 0])
-        self.check(-22, 7, 0, TEN_LINKS + [0, 5, 0, 6])
+        self.check(-22, 7, 0, ALL_LINKS_OF_5 + [0, 5, 0, 6])
         self.check(-22, 7, 0, LINE_OF_6)
         self.check(-22, 7, 0, [])
 
@@ -156,7 +150,7 @@ class WhichIsAnsweredFirst(Refusals):
         self.check(-22, 4, 4, LINE_OF_4 + [2, 2])
         self.check(-22, 4, 4, LINE_OF_4 + [0, 1])
         self.check(-22, 4, 4, LINE_OF_4 + [1, 0])
-        self.check(-22, 6, 6, TEN_LINKS + [0, 5])
+        self.check(-22, 6, 6, ALL_LINKS_OF_5 + [0, 5])
         self.check(-22, 4, 4, [0, 1, 2, 3])
         self.check(-22, 4, LARGEST, [0, 1, 2, LARGEST])
 

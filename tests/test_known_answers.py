@@ -3,16 +3,9 @@
 import unittest
 
 from swallower.orders import known
-
-LINE_OF_3 = [0, 1, 1, 2]
-LINE_OF_4 = [0, 1, 1, 2, 2, 3]
-LINE_OF_5 = [0, 1, 1, 2, 2, 3, 3, 4]
-LINE_OF_7 = [0, 1, 1, 2, 2, 3, 3, 4, 4, 5, 5, 6]
-RING_OF_4 = [0, 1, 1, 2, 2, 3, 3, 0]
-RING_OF_5 = [0, 1, 1, 2, 2, 3, 3, 4, 4, 0]
-RING_OF_6 = [0, 1, 1, 2, 2, 3, 3, 4, 4, 5, 5, 0]
-RING_OF_7 = [0, 1, 1, 2, 2, 3, 3, 4, 4, 5, 5, 6, 6, 0]
-ALL_LINKS_OF_5 = [0, 1, 0, 2, 0, 3, 0, 4, 1, 2, 1, 3, 1, 4, 2, 3, 2, 4, 3, 4]
+from tests.helper import (
+    ALL_LINKS_OF_5, LINE_OF_3, LINE_OF_4, LINE_OF_5, LINE_OF_7, RING_OF_4, RING_OF_5, RING_OF_6, RING_OF_7,
+)
 
 
 class OneAndTwoPlaces(unittest.TestCase):

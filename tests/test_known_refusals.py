@@ -3,13 +3,7 @@
 import unittest
 
 from swallower.orders import known
-
-LARGEST = 4294967295
-LINE_OF_4 = [0, 1, 1, 2, 2, 3]
-LINE_OF_7 = [0, 1, 1, 2, 2, 3, 3, 4, 4, 5, 5, 6]
-LINE_OF_8 = LINE_OF_7 + [6, 7]
-# All that five places can have.
-TEN_LINKS = [0, 1, 0, 2, 0, 3, 0, 4, 1, 2, 1, 3, 1, 4, 2, 3, 2, 4, 3, 4]
+from tests.helper import ALL_LINKS_OF_5, LARGEST, LINE_OF_4, LINE_OF_7, LINE_OF_8
 
 
 class HowManyPlaces(unittest.TestCase):
@@ -62,10 +56,10 @@ class Links(unittest.TestCase):
         self.assertEqual(known(4, 0, LINE_OF_4 + [3, 2], [1, 2, 3]), [-22])
 
     def test_more_than_ten(self):
-        self.assertEqual(known(6, 0, TEN_LINKS[:-2] + [0, 5], [1, 2, 3, 4, 5]), [5, 2, 4, 6, 8, 8])
-        self.assertEqual(known(6, 0, TEN_LINKS + [0, 5], [1, 2, 3, 4, 5]), [-22])
-        self.assertEqual(known(6, 0, TEN_LINKS + [0, 5, 5, 1], [1, 2, 3, 4, 5]), [-22])
-        self.assertEqual(known(7, 0, TEN_LINKS + [0, 5, 0, 6], [1, 2, 3, 4, 5, 6]), [-22])
+        self.assertEqual(known(6, 0, ALL_LINKS_OF_5[:-2] + [0, 5], [1, 2, 3, 4, 5]), [5, 2, 4, 6, 8, 8])
+        self.assertEqual(known(6, 0, ALL_LINKS_OF_5 + [0, 5], [1, 2, 3, 4, 5]), [-22])
+        self.assertEqual(known(6, 0, ALL_LINKS_OF_5 + [0, 5, 5, 1], [1, 2, 3, 4, 5]), [-22])
+        self.assertEqual(known(7, 0, ALL_LINKS_OF_5 + [0, 5, 0, 6], [1, 2, 3, 4, 5, 6]), [-22])
 
 
 class HangingTogether(unittest.TestCase):
@@ -141,7 +135,7 @@ class WhichIsAnsweredFirst(unittest.TestCase):
         self.assertEqual(known(4, 4, LINE_OF_4 + [3, 4], [0, 1, 2, 3]), [-22])
         self.assertEqual(known(4, 4, LINE_OF_4 + [2, 2], [0, 1, 2, 3]), [-22])
         self.assertEqual(known(4, 4, LINE_OF_4 + [1, 0], [0, 1, 2, 3]), [-22])
-        self.assertEqual(known(6, 6, TEN_LINKS + [0, 5], [0, 1, 2, 3, 4, 5]), [-22])
+        self.assertEqual(known(6, 6, ALL_LINKS_OF_5 + [0, 5], [0, 1, 2, 3, 4, 5]), [-22])
         self.assertEqual(known(4, 4, [0, 1, 2, 3], [0, 1, 2, 3]), [-22])
         self.assertEqual(known(4, LARGEST, [0, 1, 2, LARGEST], [1, 2, 3]), [-22])
 

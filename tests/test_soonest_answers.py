@@ -3,17 +3,10 @@
 import unittest
 
 from swallower.orders import known, soonest
-
-LINE_OF_3 = [0, 1, 1, 2]
-LINE_OF_4 = [0, 1, 1, 2, 2, 3]
-LINE_OF_5 = [0, 1, 1, 2, 2, 3, 3, 4]
-LINE_OF_6 = [0, 1, 1, 2, 2, 3, 3, 4, 4, 5]
-STAR_OF_4_ROUND_3 = [0, 3, 1, 3, 2, 3]
-STAR_OF_5 = [0, 1, 0, 2, 0, 3, 0, 4]
-STAR_OF_6 = [0, 1, 0, 2, 0, 3, 0, 4, 0, 5]
-ALL_LINKS_OF_3 = [0, 1, 1, 2, 2, 0]
-ALL_LINKS_OF_4 = [0, 1, 0, 2, 0, 3, 1, 2, 1, 3, 2, 3]
-ALL_LINKS_OF_5 = [0, 1, 0, 2, 0, 3, 0, 4, 1, 2, 1, 3, 1, 4, 2, 3, 2, 4, 3, 4]
+from tests.helper import (
+    ALL_LINKS_OF_3, ALL_LINKS_OF_4, ALL_LINKS_OF_5, LINE_OF_3, LINE_OF_4, LINE_OF_5, LINE_OF_6,
+    RING_OF_4, RING_OF_5, RING_OF_6, STAR_OF_4_ROUND_3, STAR_OF_5, STAR_OF_6,
+)
 
 
 class Answers(unittest.TestCase):
@@ -59,20 +52,15 @@ class Lines(Answers):
 
 
 class Rings(Answers):
-    def test_four_places(self):
-        ring = [0, 1, 1, 2, 2, 3, 3, 0]
-        self.check(4, 0, ring, [4, 1, 3, 2])
-        self.check(4, 2, ring, [4, 1, 3, 0])
+    def test_from_home_0(self):
+        self.check(4, 0, RING_OF_4, [4, 1, 3, 2])
+        self.check(5, 0, RING_OF_5, [7, 1, 4, 2, 3])
+        self.check(6, 0, RING_OF_6, [10, 1, 5, 2, 3, 4])
 
-    def test_five_places(self):
-        ring = [0, 1, 1, 2, 2, 3, 3, 4, 4, 0]
-        self.check(5, 0, ring, [7, 1, 4, 2, 3])
-        self.check(5, 3, ring, [7, 2, 4, 0, 1])
-
-    def test_six_places(self):
-        ring = [0, 1, 1, 2, 2, 3, 3, 4, 4, 5, 5, 0]
-        self.check(6, 0, ring, [10, 1, 5, 2, 3, 4])
-        self.check(6, 4, ring, [10, 3, 5, 0, 1, 2])
+    def test_from_another_home(self):
+        self.check(4, 2, RING_OF_4, [4, 1, 3, 0])
+        self.check(5, 3, RING_OF_5, [7, 2, 4, 0, 1])
+        self.check(6, 4, RING_OF_6, [10, 3, 5, 0, 1, 2])
 
 
 class LikeOrders(Answers):
