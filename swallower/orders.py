@@ -124,3 +124,12 @@ def mean(n, home, net):
     if refusal is not None:
         return [refusal]
     return best_answer([[sum(way[1])] + way[0] for way in ways_to_look(n, home, net)])
+
+
+def homes(n, net):
+    """How many places there are, then of each, were it home, what soonest tells at worst; or a refusal alone."""
+    # Every net has a place 0, so with it as home nothing but n and net can be refused.
+    refusal = refusal_to_choose(n, 0, net)
+    if refusal is not None:
+        return [refusal]
+    return [n] + [soonest(n, home, net)[0] for home in range(n)]

@@ -27,6 +27,46 @@ LARGE_NETS = [
     (7, [0, 1, 1, 2, 2, 3, 3, 4, 0, 5, 5, 3, 0, 6]),
     (7, [0, 1, 1, 2, 2, 3, 3, 4, 4, 5, 5, 6, 6, 0, 0, 3, 2, 5, 1, 6]),
 ]
+# What tells no net, as n and net, by what is wrong with it; each has that one fault alone where that can be.
+NOT_NETS = {
+    "no place": [(0, []), (0, [0, 1])],
+    "more than seven places": [
+        (8, LINE_OF_8), (9, LINE_OF_8 + [7, 8]), (LARGEST, []), (LARGEST, LINE_OF_4), (LARGEST, [0, LARGEST]),
+    ],
+    "an odd number of numbers": [
+        (1, [0]), (2, [0, 1, 0]), (4, LINE_OF_4 + [0]), (4, LINE_OF_4[:-1]), (4, LINE_OF_4 + [LARGEST]),
+        (7, LINE_OF_7 + [0]),
+    ],
+    "a number that no place is": [
+        (1, [0, 1]), (3, LINE_OF_4), (4, LINE_OF_4 + [3, 4]), (4, LINE_OF_4 + [4, 3]),
+        (4, LINE_OF_4 + [0, LARGEST]), (4, [LARGEST, 0] + LINE_OF_4), (4, LINE_OF_4 + [LARGEST - 1, LARGEST]),
+        (7, LINE_OF_7 + [0, 7]), (7, LINE_OF_7 + [LARGEST, 6]),
+    ],
+    "a link from a place to itself": [
+        (1, [0, 0]), (4, LINE_OF_4 + [3, 3]), (4, [0, 0] + LINE_OF_4), (4, LINE_OF_4 + [LARGEST, LARGEST]),
+        (7, LINE_OF_7 + [6, 6]),
+    ],
+    "a link twice in the same direction": [
+        (2, [0, 1, 0, 1]), (4, LINE_OF_4 + [0, 1]), (4, LINE_OF_4 + [0, LARGEST, 0, LARGEST]),
+        (7, LINE_OF_7 + [2, 3]),
+    ],
+    "a link twice in the other direction": [
+        (2, [0, 1, 1, 0]), (4, LINE_OF_4 + [3, 2]), (4, LINE_OF_4 + [0, LARGEST, LARGEST, 0]),
+        (7, LINE_OF_7 + [3, 2]),
+    ],
+    "more than ten links": [
+        (6, ALL_LINKS_OF_5 + [0, 5]), (6, ALL_LINKS_OF_5 + [0, 5, 5, 1]), (7, ALL_LINKS_OF_5 + [0, 5, 0, 6]),
+        (4, [LARGEST] * 22), (4, LINE_OF_4 + [LARGEST] * 18),
+    ],
+    "places that don't all hang together": [
+        (2, []), (6, []), (7, []), (3, [0, 1]), (5, LINE_OF_4), (4, [0, 1, 1, 2, 2, 0]), (4, [1, 2, 2, 3, 3, 1]),
+        (4, [0, 1, 2, 3]), (6, [0, 1, 1, 2, 2, 0, 3, 4, 4, 5, 5, 3]), (7, LINE_OF_6),
+    ],
+    "several faults": [
+        (0, [LARGEST]), (LARGEST, [LARGEST] * 24), (LARGEST, [LARGEST] * 23), (7, [LARGEST] * 24),
+        (4, [0, 0, 0, 1, 1, 0, 3]),
+    ],
+}
 
 
 def pairs(net):

@@ -2,7 +2,7 @@
 
 import unittest
 
-from swallower.orders import known, mean, soonest
+from swallower.orders import homes, known, mean, soonest
 from tests.helper import LARGEST, Unchanging
 
 ORDERED = [
@@ -29,7 +29,7 @@ TO_CHOOSE = [
     (LARGEST, LARGEST, [LARGEST] * 24),
 ]
 CASES = ([(known, values) for values in ORDERED] + [(soonest, values) for values in TO_CHOOSE]
-         + [(mean, values) for values in TO_CHOOSE])
+         + [(mean, values) for values in TO_CHOOSE] + [(homes, (n, net)) for n, home, net in TO_CHOOSE])
 
 
 def copied(values, kind):
@@ -52,6 +52,7 @@ class Arguments(unittest.TestCase):
         self.assertEqual(known(n=3, home=0, net=[0, 1, 1, 2], order=[1, 2]), [2, 2, 2])
         self.assertEqual(soonest(n=3, home=0, net=[0, 1, 1, 2]), [2, 1, 2])
         self.assertEqual(mean(n=3, home=0, net=[0, 1, 1, 2]), [4, 1, 2])
+        self.assertEqual(homes(n=3, net=[0, 1, 1, 2]), [3, 2, 2, 2])
 
 
 class Answers(unittest.TestCase):
@@ -74,10 +75,11 @@ class Answers(unittest.TestCase):
             self.assertIs(type(answer), list)
             self.assertTrue(all(type(number) is int for number in answer))
 
-    def test_a_refusal_is_alone_and_else_there_are_n_numbers(self):
+    def test_a_refusal_is_alone_and_else_there_are_as_many_numbers_as_told(self):
         for call, values in CASES:
             answer = call(*values)
-            self.assertEqual(len(answer), 1 if answer[0] < 0 else values[0])
+            numbers = values[0] + 1 if call == homes else values[0]
+            self.assertEqual(len(answer), 1 if answer[0] < 0 else numbers)
 
 
 if __name__ == "__main__":

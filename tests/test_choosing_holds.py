@@ -2,8 +2,11 @@
 
 import unittest
 
-from swallower.orders import known, mean, soonest
-from tests.helper import LARGE_NETS, expected, orders_of, small_nets_with_homes
+from swallower.orders import homes, known, mean, soonest
+from tests.helper import (
+    ALL_LINKS_OF_5, LARGE_NETS, LINE_OF_5, RING_OF_5, STAR_OF_5,
+    expected, nets_of, orders_of, small_nets_with_homes,
+)
 
 NETS_OF_SIX = [net for n, net in LARGE_NETS if n == 6] + [
     [0, 1, 1, 2, 2, 3, 3, 4, 4, 5],
@@ -14,6 +17,14 @@ NETS_OF_SIX = [net for n, net in LARGE_NETS if n == 6] + [
     [0, 1, 1, 2, 2, 3, 3, 4, 0, 5, 5, 3],
     [0, 1, 1, 2, 2, 0, 3, 4, 4, 5, 5, 3, 0, 3],
     [0, 3, 0, 4, 0, 5, 1, 3, 1, 4, 1, 5, 2, 3, 2, 4, 2, 5],
+]
+NETS_OF_FIVE = [
+    LINE_OF_5, RING_OF_5, STAR_OF_5, ALL_LINKS_OF_5,
+    [0, 1, 0, 2, 0, 3, 1, 4],
+    [4, 0, 4, 1, 4, 2, 2, 3],
+    [0, 1, 1, 2, 2, 3, 3, 0, 3, 4],
+    [0, 1, 1, 2, 2, 0, 2, 3, 3, 4],
+    [0, 2, 0, 3, 0, 4, 1, 2, 1, 3, 1, 4],
 ]
 
 
@@ -53,6 +64,39 @@ class NoOrderIsBetter(unittest.TestCase):
         for net in NETS_OF_SIX:
             for home in range(6):
                 self.check(6, home, net)
+
+
+class NoHomeHasABetterOrder(unittest.TestCase):
+    def check(self, n, net):
+        with self.subTest(n=n, net=net):
+            best = [min(at_worst(behind) for order, behind in reckoned(n, home, net)) for home in range(n)]
+            self.assertEqual(homes(n, net), [n] + best)
+
+    def check_against_known(self, n, net):
+        """By known, as it tells each order by itself."""
+        answer = homes(n, net)
+        for home in range(n):
+            told = [known(n, home, net, order) for order in orders_of(n, home)]
+            worst = [at_worst(behind[1:]) for behind in told if behind != [-33]]
+            with self.subTest(n=n, net=net, home=home):
+                self.assertTrue(all(answer[home + 1] <= steps for steps in worst))
+                self.assertIn(answer[home + 1], worst)
+
+    def test_every_net_of_up_to_four_places(self):
+        for n in range(1, 5):
+            for net in nets_of(n):
+                self.check(n, net)
+                self.check_against_known(n, net)
+
+    def test_some_nets_of_five_places(self):
+        for net in NETS_OF_FIVE:
+            self.check(5, net)
+            self.check_against_known(5, net)
+
+    def test_some_nets_of_six_places(self):
+        for net in NETS_OF_SIX:
+            self.check(6, net)
+            self.check_against_known(6, net)
 
 
 if __name__ == "__main__":
