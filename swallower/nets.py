@@ -28,6 +28,15 @@ def places_beside(n, links):
     return beside_each
 
 
+def places_round(beside_each, inner):
+    """The places beside one of inner, but those of inner, rising."""
+    found = []
+    for place in range(len(beside_each)):
+        if place not in inner and any([other in inner for other in beside_each[place]]):
+            found.append(place)
+    return found
+
+
 def steps_to_each(beside_each, start, allowed):
     """Of each place that can be reached from start through allowed places alone, how far it is."""
     steps = {start: 0}

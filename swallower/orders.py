@@ -1,6 +1,6 @@
 """Orders in which the places of a net are looked into, and what they bring to light."""
 
-from swallower.nets import is_net, links_of, places_beside, steps_to_each
+from swallower.nets import is_net, links_of, places_beside, places_round, steps_to_each
 
 NOT_AS_TOLD = -22
 NO_SUCH_HOME = -2
@@ -31,6 +31,12 @@ def refusal_to_choose(n, home, net):
 def tells_all_but_home(n, home, order):
     """Whether order tells all of n places but home, each once."""
     return sorted(order) == [place for place in range(n) if place != home]
+
+
+def tells_places_but_home(n, home, order):
+    """Whether order tells fewer than n places, and neither home nor one that there isn't among them."""
+    # A place may be told more than once; each time counts.
+    return len(order) < n and all([place != home and place < n for place in order])
 
 
 def place_to_look_from(beside_it, steps):
@@ -133,3 +139,14 @@ def homes(n, net):
     if refusal is not None:
         return [refusal]
     return [n] + [soonest(n, home, net)[0] for home in range(n)]
+
+
+def beside(n, home, net, order):
+    """How many others are beside home or one that order tells, then they, rising; or a refusal alone."""
+    refusal = refusal_of(n, home, net)
+    if refusal is not None:
+        return [refusal]
+    if not tells_places_but_home(n, home, order):
+        return [NOT_AS_TOLD]
+    others = places_round(places_beside(n, links_of(net)), [home] + order)
+    return [len(others)] + others

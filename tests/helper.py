@@ -27,6 +27,24 @@ LARGE_NETS = [
     (7, [0, 1, 1, 2, 2, 3, 3, 4, 0, 5, 5, 3, 0, 6]),
     (7, [0, 1, 1, 2, 2, 3, 3, 4, 4, 5, 5, 6, 6, 0, 0, 3, 2, 5, 1, 6]),
 ]
+NETS_OF_FIVE = [
+    LINE_OF_5, RING_OF_5, STAR_OF_5, ALL_LINKS_OF_5,
+    [0, 1, 0, 2, 0, 3, 1, 4],
+    [4, 0, 4, 1, 4, 2, 2, 3],
+    [0, 1, 1, 2, 2, 3, 3, 0, 3, 4],
+    [0, 1, 1, 2, 2, 0, 2, 3, 3, 4],
+    [0, 2, 0, 3, 0, 4, 1, 2, 1, 3, 1, 4],
+]
+NETS_OF_SIX = [net for n, net in LARGE_NETS if n == 6] + [
+    [0, 1, 1, 2, 2, 3, 3, 4, 4, 5],
+    [5, 0, 5, 1, 5, 2, 5, 3, 5, 4],
+    [0, 3, 1, 3, 1, 4, 2, 4, 3, 5],
+    [0, 1, 0, 2, 0, 3, 1, 4, 1, 5],
+    [0, 3, 0, 4, 1, 2, 2, 3, 2, 4, 4, 5],
+    [0, 1, 1, 2, 2, 3, 3, 4, 0, 5, 5, 3],
+    [0, 1, 1, 2, 2, 0, 3, 4, 4, 5, 5, 3, 0, 3],
+    [0, 3, 0, 4, 0, 5, 1, 3, 1, 4, 1, 5, 2, 3, 2, 4, 2, 5],
+]
 # What tells no net, as n and net, by what is wrong with it; each has that one fault alone where that can be.
 NOT_NETS = {
     "no place": [(0, []), (0, [0, 1])],
@@ -139,6 +157,14 @@ def small_nets_with_homes():
                 yield n, home, net
     for net in nets_of(5):
         yield 5, 2, net
+
+
+def all_short_lists():
+    """Every list of up to four numbers, be it a net or not, with several n: n, net."""
+    for length in range(5):
+        for numbers in itertools.product((0, 1, 2, 3, LARGEST), repeat=length):
+            for n in (0, 1, 2, 3, LARGEST):
+                yield n, list(numbers)
 
 
 class Unchanging(list):

@@ -1,8 +1,11 @@
-"""What is handed in stays as it is, nothing is kept between calls, and the answers are of the kind told."""
+"""What is handed in stays as it is, nothing is kept, printed or read, and the answers are of the kind told."""
 
+import contextlib
+import io
 import unittest
+from unittest import mock
 
-from swallower.orders import homes, known, mean, soonest
+from swallower.orders import beside, homes, known, mean, soonest
 from tests.helper import LARGEST, Unchanging
 
 ORDERED = [
@@ -28,8 +31,18 @@ TO_CHOOSE = [
     (4, 0, [2, 3, 1, 2, 0, 1, 1]),
     (LARGEST, LARGEST, [LARGEST] * 24),
 ]
+TOLD_IN_PART = [
+    (1, 0, [], []),
+    (2, 1, [1, 0], []),
+    (5, 2, [4, 3, 1, 0, 3, 2, 2, 1], [4, 0]),
+    (5, 2, [4, 3, 1, 0, 3, 2, 2, 1], [3, 1, 3]),
+    (7, 0, [0, 1, 1, 2, 2, 3, 3, 4, 0, 5, 5, 3, 0, 6], [5, 1]),
+    (4, 0, [2, 3, 1, 2, 0, 1], [3, 0]),
+    (4, 0, [2, 3, 1, 2, 0, 1], [4]),
+]
 CASES = ([(known, values) for values in ORDERED] + [(soonest, values) for values in TO_CHOOSE]
-         + [(mean, values) for values in TO_CHOOSE] + [(homes, (n, net)) for n, home, net in TO_CHOOSE])
+         + [(mean, values) for values in TO_CHOOSE] + [(homes, (n, net)) for n, home, net in TO_CHOOSE]
+         + [(beside, values) for values in ORDERED + TOLD_IN_PART])
 
 
 def copied(values, kind):
@@ -53,6 +66,7 @@ class Arguments(unittest.TestCase):
         self.assertEqual(soonest(n=3, home=0, net=[0, 1, 1, 2]), [2, 1, 2])
         self.assertEqual(mean(n=3, home=0, net=[0, 1, 1, 2]), [4, 1, 2])
         self.assertEqual(homes(n=3, net=[0, 1, 1, 2]), [3, 2, 2, 2])
+        self.assertEqual(beside(n=3, home=0, net=[0, 1, 1, 2], order=[1]), [1, 2])
 
 
 class Answers(unittest.TestCase):
@@ -78,8 +92,17 @@ class Answers(unittest.TestCase):
     def test_a_refusal_is_alone_and_else_there_are_as_many_numbers_as_told(self):
         for call, values in CASES:
             answer = call(*values)
-            numbers = values[0] + 1 if call == homes else values[0]
-            self.assertEqual(len(answer), 1 if answer[0] < 0 else numbers)
+            others = values[0] - 1 if call in (soonest, mean) else answer[0]
+            self.assertEqual(len(answer) - 1, 0 if answer[0] < 0 else others)
+
+    def test_nothing_is_printed_or_read(self):
+        said = io.StringIO()
+        refusing = mock.Mock(side_effect=AssertionError("something was read"))
+        with contextlib.redirect_stdout(said), contextlib.redirect_stderr(said):
+            with mock.patch("builtins.open", refusing), mock.patch("builtins.input", refusing):
+                for call, values in CASES:
+                    call(*values)
+        self.assertEqual(said.getvalue(), "")
 
 
 if __name__ == "__main__":

@@ -3,29 +3,7 @@
 import unittest
 
 from swallower.orders import homes, known, mean, soonest
-from tests.helper import (
-    ALL_LINKS_OF_5, LARGE_NETS, LINE_OF_5, RING_OF_5, STAR_OF_5,
-    expected, nets_of, orders_of, small_nets_with_homes,
-)
-
-NETS_OF_SIX = [net for n, net in LARGE_NETS if n == 6] + [
-    [0, 1, 1, 2, 2, 3, 3, 4, 4, 5],
-    [5, 0, 5, 1, 5, 2, 5, 3, 5, 4],
-    [0, 3, 1, 3, 1, 4, 2, 4, 3, 5],
-    [0, 1, 0, 2, 0, 3, 1, 4, 1, 5],
-    [0, 3, 0, 4, 1, 2, 2, 3, 2, 4, 4, 5],
-    [0, 1, 1, 2, 2, 3, 3, 4, 0, 5, 5, 3],
-    [0, 1, 1, 2, 2, 0, 3, 4, 4, 5, 5, 3, 0, 3],
-    [0, 3, 0, 4, 0, 5, 1, 3, 1, 4, 1, 5, 2, 3, 2, 4, 2, 5],
-]
-NETS_OF_FIVE = [
-    LINE_OF_5, RING_OF_5, STAR_OF_5, ALL_LINKS_OF_5,
-    [0, 1, 0, 2, 0, 3, 1, 4],
-    [4, 0, 4, 1, 4, 2, 2, 3],
-    [0, 1, 1, 2, 2, 3, 3, 0, 3, 4],
-    [0, 1, 1, 2, 2, 0, 2, 3, 3, 4],
-    [0, 2, 0, 3, 0, 4, 1, 2, 1, 3, 1, 4],
-]
+from tests.helper import NETS_OF_FIVE, NETS_OF_SIX, expected, nets_of, orders_of, small_nets_with_homes
 
 
 def at_worst(behind):

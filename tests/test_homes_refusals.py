@@ -1,10 +1,11 @@
 """What homes refuses, and which of several refusals it answers (promise 1)."""
 
-import itertools
 import unittest
 
 from swallower.orders import homes
-from tests.helper import ALL_LINKS_OF_5, LARGEST, LINE_OF_6, LINE_OF_7, NOT_NETS, RING_OF_7, is_told_net
+from tests.helper import (
+    ALL_LINKS_OF_5, LARGEST, LINE_OF_6, LINE_OF_7, NOT_NETS, RING_OF_7, all_short_lists, is_told_net,
+)
 
 
 class NoNet(unittest.TestCase):
@@ -52,13 +53,11 @@ class MoreThanSixPlaces(unittest.TestCase):
 
 class AllLists(unittest.TestCase):
     def test_every_short_net_is_taken_or_refused_as_told(self):
-        for length in range(5):
-            for numbers in itertools.product((0, 1, 2, 3, LARGEST), repeat=length):
-                for n in (0, 1, 2, 3, LARGEST):
-                    with self.subTest(n=n, net=numbers):
-                        answer = homes(n, list(numbers))
-                        self.assertEqual(answer[0], n if is_told_net(n, list(numbers)) else -22)
-                        self.assertEqual(len(answer), n + 1 if answer[0] == n else 1)
+        for n, net in all_short_lists():
+            with self.subTest(n=n, net=net):
+                answer = homes(n, net)
+                self.assertEqual(answer[0], n if is_told_net(n, net) else -22)
+                self.assertEqual(len(answer), n + 1 if answer[0] == n else 1)
 
 
 if __name__ == "__main__":

@@ -4,7 +4,9 @@ import itertools
 import unittest
 
 from swallower.orders import known
-from tests.helper import LARGE_NETS, LARGEST, expected, is_told_net, orders_of, small_nets_with_homes
+from tests.helper import (
+    LARGE_NETS, LARGEST, all_short_lists, expected, is_told_net, orders_of, small_nets_with_homes,
+)
 
 
 class AllOrders(unittest.TestCase):
@@ -44,15 +46,10 @@ class AllOrders(unittest.TestCase):
 
 class AllLists(unittest.TestCase):
     def test_every_short_net_is_taken_or_refused_as_told(self):
-        for length in range(5):
-            for numbers in itertools.product((0, 1, 2, 3, LARGEST), repeat=length):
-                for n in (0, 1, 2, 3, LARGEST):
-                    self.check_net(n, list(numbers))
-
-    def check_net(self, n, net):
-        with self.subTest(n=n, net=net):
-            # With a home that isn't there, -2 says that the net is one.
-            self.assertEqual(known(n, LARGEST, net, []), [-2] if is_told_net(n, net) else [-22])
+        for n, net in all_short_lists():
+            with self.subTest(n=n, net=net):
+                # With a home that isn't there, -2 says that the net is one.
+                self.assertEqual(known(n, LARGEST, net, []), [-2] if is_told_net(n, net) else [-22])
 
     def test_every_short_order_is_taken_or_refused_as_told(self):
         net = [0, 1, 1, 2, 2, 0]
